@@ -1,6 +1,7 @@
 """What groups of readers pay alone."""
 
 CHANGE_COST = 2
+READER_COUNT = 4
 
 
 def size_of(table, grouping):
@@ -16,27 +17,32 @@ def all_sizes(table):
     return [size_of(table, grouping) for grouping in range(1 << len(table.columns))]
 
 
-def pays_alone(table, readers, changes, group):
-    """The least that the group's questions, and all changes, can cost together."""
-    questions = []
-    for question, reader in zip(table.questions, readers):
-        if group >> reader & 1:
-            questions.append(question)
-    return least_cost(part_costs(table, questions, changes))
+def all_alone(table, readers, changes):
+    """What each group pays alone, in order: the least that its questions, and all changes, can cost together."""
+    least = least_costs(part_costs(table, changes))
+    return [least[questions_of(readers, group)] for group in range(1 << READER_COUNT)]
 
 
-def part_costs(table, questions, changes):
-    """For each set of these questions, the least they cost if all read the same.
+def questions_of(readers, group):
+    """The questions of the group's readers: the first question's bit is 1, the next one's 2, and so on."""
+    chosen = 0
+    for place, reader in enumerate(readers):
+        chosen |= (group >> reader & 1) << place
+    return chosen
+
+
+def part_costs(table, changes):
+    """For each set of questions, the least they cost if all read the same.
 
     That is the table, or one kept answer. From this all of them have to be worked
     out, and none such has a lesser size than that of all their columns together.
     """
     sizes = all_sizes(table)
     costs = []
-    for part in range(1 << len(questions)):
+    for part in range(1 << len(table.questions)):
         together = 0
         often = 0
-        for place, (grouping, times) in enumerate(questions):
+        for place, (grouping, times) in enumerate(table.questions):
             if part >> place & 1:
                 together |= grouping
                 often += times
@@ -45,8 +51,8 @@ def part_costs(table, questions, changes):
     return costs
 
 
-def least_cost(costs):
-    """The least that all questions cost, of all ways to part them.
+def least_costs(costs):
+    """The least that each set of questions costs, of all ways to part it.
 
     With the best set of kept answers, those that read the same make a part. With any
     other way to part them some set costs no more than the parts do: a question reads
@@ -55,7 +61,7 @@ def least_cost(costs):
     least = [0]
     for chosen in range(1, len(costs)):
         least.append(least_parted(chosen, costs, least))
-    return least[-1]
+    return least
 
 
 def least_parted(chosen, costs, least):

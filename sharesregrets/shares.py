@@ -1,6 +1,8 @@
 """The calls on one object, one behind another, and what they answer."""
 
-from sharesregrets.costs import pays_alone
+from sharesregrets.costs import all_alone
+from sharesregrets.fairness import all_shares, unhappy_groups
+from sharesregrets.regrets import SmallSets
 from sharesregrets.tables import one_form, read_table
 from sharesregrets.tokens import TableFault
 
@@ -9,6 +11,10 @@ SHOWN = 1
 READERS = 2
 CHANGES = 3
 ALONE = 4
+SHARES = 5
+UNHAPPY = 6
+BOUNDS = 7
+REGRET = 8
 
 # What stands behind each call's number, in order.
 FORMS = (
@@ -27,25 +33,27 @@ FORMS = (
 MOST_READER = 3
 MOST_CHANGES = 1000
 MOST_GROUP = 15
+MOST_OFTEN = 99
+MOST_KEPT = 2
 
 # Refusals are told as these numbers below 0.
 NO_TABLE = 1
 NO_GROUP = 2
+NO_GROUPING = 2
 WRONG_LIST = 3
 WRONG_CHANGES = 4
-
-
-class CallNotWritten(NotImplementedError):
-    """A call that this program reads, but does not answer yet while there is a table."""
+TOO_MANY_KEPT = 5
 
 
 class Held:
-    """What the object holds: a table, each question's reader, and the changes; or none."""
+    """What the object holds: a table, each question's reader, the changes, and both bounds; or none."""
 
     def __init__(self):
         self.table = None
         self.readers = []
         self.changes = 0
+        self.low = []
+        self.high = []
 
 
 class CallWalk:
@@ -106,7 +114,15 @@ def answer_call(held, number, arguments):
         return answer_changes(held, arguments[0])
     if number == ALONE:
         return answer_alone(held, arguments[0])
-    raise CallNotWritten(f"call {number} is not written yet")
+    if number == SHARES:
+        return answer_shares(held)
+    if number == UNHAPPY:
+        return answer_unhappy(held)
+    if number == BOUNDS:
+        return answer_bounds(held, arguments[0], arguments[1])
+    if number == REGRET:
+        return answer_regret(held, arguments[0])
+    return answer_least(held)
 
 
 def refusal(code):
@@ -121,6 +137,8 @@ def answer_load(held, text):
     held.table = table
     held.readers = [0] * len(table.questions)
     held.changes = 0
+    held.low = [times for grouping, times in table.questions]
+    held.high = list(held.low)
     return [1, len(table.columns), len(table.rows), len(table.questions)]
 
 
@@ -149,4 +167,59 @@ def answer_changes(held, changes):
 def answer_alone(held, group):
     if group < 0 or group > MOST_GROUP:
         return refusal(NO_GROUP)
-    return [pays_alone(held.table, held.readers, held.changes, group)]
+    return [groups_alone(held)[group]]
+
+
+def groups_alone(held):
+    return all_alone(held.table, held.readers, held.changes)
+
+
+def answer_shares(held):
+    alone = groups_alone(held)
+    answer = [alone[MOST_GROUP]]
+    for numerator, denominator in all_shares(alone):
+        answer.append(numerator)
+        answer.append(denominator)
+    return answer
+
+
+def answer_unhappy(held):
+    return told_set(unhappy_groups(groups_alone(held)))
+
+
+def told_set(members):
+    return [len(members)] + members
+
+
+def answer_bounds(held, low, high):
+    count = len(held.table.questions)
+    if len(low) != count or len(high) != count:
+        return refusal(WRONG_LIST)
+    for least, most in zip(low, high):
+        if least < 0 or most > MOST_OFTEN or least > most:
+            return refusal(WRONG_LIST)
+    held.low = low
+    held.high = high
+    return [1]
+
+
+def small_sets(held):
+    return SmallSets(held.table, held.changes, held.low, held.high)
+
+
+def answer_regret(held, groupings):
+    for grouping in groupings:
+        if grouping < 0 or grouping >= 1 << len(held.table.columns):
+            return refusal(NO_GROUPING)
+    kept = sorted(set(groupings))
+    if len(kept) > MOST_KEPT:
+        return refusal(TOO_MANY_KEPT)
+    small = small_sets(held)
+    own = small.sets.index(kept)
+    return [small.greatest_regret(own)] + told_set(small.sets[small.regretted(own)])
+
+
+def answer_least(held):
+    small = small_sets(held)
+    own = small.least()
+    return [small.greatest_regret(own)] + told_set(small.sets[own]) + told_set(small.sets[small.regretted(own)])

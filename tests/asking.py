@@ -1,4 +1,4 @@
-"""What the tests share: calls as numbers, their answers one by one, the worked text."""
+"""What the tests share: calls as numbers, their answers one by one, the worked text, plain ways to compare with."""
 
 from sharesregrets.shares import answers
 
@@ -78,3 +78,57 @@ def form_of(text):
     if loaded[0] != 1 or told[0] != len(told) - 1:
         raise AssertionError(f"{text!r} answers {loaded}, then {told}")
     return bytes(told[1:]).decode("ascii")
+
+
+def text_of(column_count, rows, questions):
+    """rows: numbers in order; questions: (grouping, times)."""
+    names = "abcd"[:column_count]
+    text = "columns " + ", ".join(names) + " ; "
+    for row in rows:
+        text += "row " + ", ".join(str(number) for number in row) + " : 1 ; "
+    for grouping, times in questions:
+        asked = [name for place, name in enumerate(names) if grouping >> place & 1]
+        text += "ask " + ", ".join(asked) + f" times {times} ; "
+    return text
+
+
+def random_table(chosen, most_columns=3, most_rows=10, most_questions=8):
+    """How many columns; rows; questions: by a random.Random, so the same ones each time."""
+    column_count = chosen.randint(1, most_columns)
+    most_value = chosen.choice([0, 1, 2, 2, 3, 9])
+    rows = [tuple(chosen.randint(0, most_value) for place in range(column_count))
+            for row in range(chosen.randint(0, most_rows))]
+    questions = [(chosen.randrange(2 ** column_count), chosen.choice([1, 1, 2, 3, 5, 9, 20, 99]))
+                 for question in range(chosen.randint(0, most_questions))]
+    return column_count, rows, questions
+
+
+def plain_sizes(column_count, rows):
+    sizes = []
+    for grouping in range(2 ** column_count):
+        places = [place for place in range(column_count) if grouping >> place & 1]
+        sizes.append(len({tuple(row[place] for place in places) for row in rows}))
+    return sizes
+
+
+def plain_read(kept, grouping, sizes, row_count):
+    """What a question reads of the kept ones: the least size, else the table."""
+    usable = [(sizes[other], other) for other in kept if other & grouping == grouping]
+    return min(usable)[0] if usable else row_count
+
+
+def plain_all_groups(column_count, rows, questions, belongs, change_count):
+    """What each of the 16 groups pays alone."""
+    sizes = plain_sizes(column_count, rows)
+    best = [None] * 16
+    for chosen in range(2 ** len(sizes)):
+        kept = [grouping for grouping in range(len(sizes)) if chosen >> grouping & 1]
+        reader_costs = [0, 0, 0, 0]
+        for (grouping, times), reader in zip(questions, belongs):
+            reader_costs[reader] += times * plain_read(kept, grouping, sizes, len(rows))
+        for group in range(16):
+            cost = 2 * change_count * len(kept)
+            cost += sum(reader_costs[reader] for reader in range(4) if group >> reader & 1)
+            if best[group] is None or cost < best[group]:
+                best[group] = cost
+    return best

@@ -3,50 +3,7 @@
 import random
 import unittest
 
-from asking import WORKED, alone, ask, changes, load, readers
-
-
-def text_of(column_count, rows, questions):
-    """rows: numbers in order; questions: (grouping, times)."""
-    names = "abcd"[:column_count]
-    text = "columns " + ", ".join(names) + " ; "
-    for row in rows:
-        text += "row " + ", ".join(str(number) for number in row) + " : 1 ; "
-    for grouping, times in questions:
-        asked = [name for place, name in enumerate(names) if grouping >> place & 1]
-        text += "ask " + ", ".join(asked) + f" times {times} ; "
-    return text
-
-
-def plain_sizes(column_count, rows):
-    sizes = []
-    for grouping in range(2 ** column_count):
-        places = [place for place in range(column_count) if grouping >> place & 1]
-        sizes.append(len({tuple(row[place] for place in places) for row in rows}))
-    return sizes
-
-
-def plain_read(kept, grouping, sizes, row_count):
-    """What a question reads of the kept ones: the least size, else the table."""
-    usable = [(sizes[other], other) for other in kept if other & grouping == grouping]
-    return min(usable)[0] if usable else row_count
-
-
-def plain_all_groups(column_count, rows, questions, belongs, change_count):
-    """What each of the 16 groups pays alone."""
-    sizes = plain_sizes(column_count, rows)
-    best = [None] * 16
-    for chosen in range(2 ** len(sizes)):
-        kept = [grouping for grouping in range(len(sizes)) if chosen >> grouping & 1]
-        reader_costs = [0, 0, 0, 0]
-        for (grouping, times), reader in zip(questions, belongs):
-            reader_costs[reader] += times * plain_read(kept, grouping, sizes, len(rows))
-        for group in range(16):
-            cost = 2 * change_count * len(kept)
-            cost += sum(reader_costs[reader] for reader in range(4) if group >> reader & 1)
-            if best[group] is None or cost < best[group]:
-                best[group] = cost
-    return best
+from asking import WORKED, alone, ask, changes, load, plain_all_groups, random_table, readers, text_of
 
 
 class AloneCase(unittest.TestCase):
@@ -153,14 +110,18 @@ class ManyTables(AloneCase):
     def test_small_tables(self):
         chosen = random.Random(2)
         for step in range(250):
-            column_count = chosen.randint(1, 3)
-            row_count = chosen.randint(0, 10)
-            rows = [tuple(chosen.randint(0, 2) for place in range(column_count)) for row in range(row_count)]
-            questions = [(chosen.randrange(2 ** column_count), chosen.randint(1, 6))
-                         for question in range(chosen.randint(0, 8))]
+            column_count, rows, questions = random_table(chosen)
             belongs = [chosen.randint(0, 3) for question in questions]
             told = self.same_as_plain(column_count, rows, questions, belongs, chosen.choice([0, 1, 2, 3, 5, 9]))
             self.two_pay_no_more_together(told)
+
+    def test_two_pay_no_more_together_than_both_alone(self):
+        chosen = random.Random(3)
+        for step in range(300):
+            column_count, rows, questions = random_table(chosen, 4, 16)
+            belongs = [chosen.randint(0, 3) for question in questions]
+            change_count = chosen.choice([0, 1, 4, 12, 40, 1000])
+            self.two_pay_no_more_together(self.all_groups(column_count, rows, questions, belongs, change_count))
 
     def two_pay_no_more_together(self, told):
         for one in range(16):

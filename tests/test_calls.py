@@ -5,7 +5,7 @@ import unittest
 from asking import (
     LEAST, MOST, WORKED, alone, ask, ask_last, bounds, changes, least, load, readers, regret, shares, shown, unhappy,
 )
-from sharesregrets.shares import CallNotWritten, answers
+from sharesregrets.shares import answers
 
 # Group 1 pays 15 and group 2 nothing while the readers are as at first; here all differ.
 SPREAD = [load(WORKED), readers(0, 1, 2, 3)]
@@ -107,13 +107,6 @@ class GroupRefusals(unittest.TestCase):
     def test_edges(self):
         told = ask(load(WORKED), alone(0), alone(15), alone(16), alone(-1), alone(MOST), alone(LEAST), alone(15))
         self.assertEqual(told[1:], [[0], [15], [-2], [-2], [-2], [-2], [15]])
-
-
-class CallsOfALaterStage(unittest.TestCase):
-    def test_with_a_table_they_are_not_answered_by_something_made_up(self):
-        for call in (shares(), unhappy(), bounds([0] * 4, [9] * 4), regret(3), least()):
-            with self.assertRaises(CallNotWritten):
-                ask(load(WORKED), call)
 
 
 class FormOfLists(unittest.TestCase):
